@@ -1,0 +1,1 @@
+"""Boundstead: a spatial database whose answers come with evidence."""
