@@ -1,6 +1,9 @@
 """The kinds of plain values that arguments are made of."""
 
 COORDINATE_LIMIT = 1000000
+SPEED_LIMIT = 100
+LAST_TIME = 1000
+GREATEST_KEY = 1000000000
 MOST_AXES = 4
 
 
@@ -14,6 +17,38 @@ def is_sequence(value):
     return isinstance(value, (list, tuple))
 
 
+def is_within(value, least, most):
+    """Whether value is an integer from least to most."""
+    return is_integer(value) and least <= value <= most
+
+
 def is_coordinate(value):
     """Whether value is an integer in the range of coordinates."""
-    return is_integer(value) and -COORDINATE_LIMIT <= value <= COORDINATE_LIMIT
+    return is_within(value, -COORDINATE_LIMIT, COORDINATE_LIMIT)
+
+
+def is_key(value):
+    """Whether value is an integer in the range of keys."""
+    return is_within(value, 0, GREATEST_KEY)
+
+
+def is_time(value):
+    """Whether value is an integer in the range of times."""
+    return is_within(value, 0, LAST_TIME)
+
+
+def is_span(start, end):
+    """Whether start and end are times, the end not before the start."""
+    return is_time(start) and is_time(end) and start <= end
+
+
+def is_axes(value):
+    """Whether value is a possible number of axes."""
+    return is_within(value, 1, MOST_AXES)
+
+
+def is_speed(value):
+    """Whether value is a speed: one small integer for each of one to four axes."""
+    if not is_sequence(value) or not 1 <= len(value) <= MOST_AXES:
+        return False
+    return all([is_within(rate, -SPEED_LIMIT, SPEED_LIMIT) for rate in value])

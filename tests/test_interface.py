@@ -22,6 +22,23 @@ FUNCTIONS = {
         "place_at": ("box", "speed", "time"),
         "meeting_span": ("one", "one_speed", "other", "other_speed", "start", "end"),
     },
+    "items": {
+        "is_item": ("value",),
+        "bounds_of": ("items",),
+        "joined": ("one", "other"),
+        "widest": ("axes",),
+        "is_possible": ("bounds", "box", "speed"),
+        "reach": ("bounds",),
+        "shared": ("one", "other"),
+    },
+    "splits": {
+        "best_split": ("entries", "least"),
+        "best_kid": ("entries", "bounds"),
+    },
+    "questions": {
+        "is_question": ("axes", "value"),
+        "plain_answer": ("items", "question"),
+    },
 }
 
 

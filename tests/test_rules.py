@@ -139,7 +139,8 @@ class CodeTest(unittest.TestCase):
         own = {node.name for _, _, tree in files() for node in ast.walk(tree) if isinstance(node, ast.FunctionDef)}
         for path, _, tree in files():
             for node in ast.walk(tree):
-                if isinstance(node, ast.Name) and hasattr(builtins, node.id):
+                # A doctest that ran before leaves its last value in a builtin name _.
+                if isinstance(node, ast.Name) and node.id != "_" and hasattr(builtins, node.id):
                     self.assertIsInstance(node.ctx, ast.Load, (path, node.lineno))
                     self.assertIn(node.id, BUILTINS, (path, node.lineno))
                 if isinstance(node, ast.Call) and isinstance(node.func, ast.Attribute):
@@ -151,11 +152,72 @@ class CodeTest(unittest.TestCase):
                 if name is not None and name.startswith("__"):
                     self.assertIn(name, SPECIAL | {"__slots__"}, path)
 
+    def test_local_names_are_neither_imports_nor_classes_nor_generators(self):
+        makers = {
+            node.name for _, _, tree in files() for node in ast.walk(tree)
+            if isinstance(node, ast.FunctionDef) and any(isinstance(each, ast.Yield) for each in ast.walk(node))
+        }
+        for path, _, tree in files():
+            taken = set(makers)
+            for node in tree.body:
+                if isinstance(node, ast.ImportFrom):
+                    taken.update(each.name for each in node.names)
+                elif isinstance(node, ast.ClassDef):
+                    taken.add(node.name)
+            for name, line in local_names(tree):
+                self.assertNotIn(name, taken, (path, line))
+
+    def test_underscore_is_never_read(self):
+        for path, _, tree in files():
+            for node in ast.walk(tree):
+                if isinstance(node, ast.Name) and node.id == "_":
+                    self.assertIsInstance(node.ctx, ast.Store, (path, node.lineno))
+
+    def test_no_list_that_is_iterated_over_is_modified(self):
+        for path, _, tree in files():
+            for node in ast.walk(tree):
+                if isinstance(node, ast.For):
+                    for called in ast.walk(ast.Module(node.body, [])):
+                        if isinstance(called, ast.Call) and isinstance(called.func, ast.Attribute):
+                            if called.func.attr in ("append", "extend", "pop", "clear", "update", "insert", "remove"):
+                                over = ast.unparse(node.iter)
+                                self.assertNotEqual(ast.unparse(called.func.value), over, (path, node.lineno))
+
+    def test_is_stands_beside_none_true_and_false_alone(self):
+        for path, _, tree in files():
+            for node in ast.walk(tree):
+                if isinstance(node, ast.Compare) and isinstance(node.ops[0], (ast.Is, ast.IsNot)):
+                    self.assertIn(ast.unparse(node.comparators[0]), ("None", "True", "False"), (path, node.lineno))
+
+    def test_no_two_files_import_from_each_other(self):
+        above = {}
+        for path, _, tree in files():
+            above[f"boundstead.{path.stem}"] = [
+                node.module for node in tree.body
+                if isinstance(node, ast.ImportFrom) and node.module.startswith("boundstead.")
+            ]
+        while above:
+            free = [name for name, needs in above.items() if not any(need in above for need in needs)]
+            self.assertTrue(free, above)
+            for name in free:
+                del above[name]
+
     def test_generator_expressions_are_not_given_to_any_all_and_the_like(self):
         # A tree has its own __eq__ and __len__; then these functions take lists alone.
         for path, _, tree in files():
             for node in ast.walk(tree):
                 self.assertNotIsInstance(node, ast.GeneratorExp, (path, getattr(node, "lineno", 0)))
+
+
+def local_names(tree):
+    """The name and the line of each parameter and local variable of a file, nested functions included."""
+    for function in ast.walk(tree):
+        if isinstance(function, (ast.FunctionDef, ast.Lambda)):
+            for node in ast.walk(function):
+                if isinstance(node, ast.Name) and isinstance(node.ctx, ast.Store):
+                    yield node.id, node.lineno
+                elif isinstance(node, ast.arg):
+                    yield node.arg, node.lineno
 
 
 def bound_at_module_level(tree):
