@@ -4,12 +4,27 @@ from boundstead.boxes import is_box
 from boundstead.kinds import COORDINATE_LIMIT, SPEED_LIMIT, is_key, is_sequence, is_speed
 
 
+def is_box_of(axes, value):
+    """Whether value is a box of so many axes."""
+    return is_box(value) and len(value) == axes
+
+
+def is_speed_of(axes, value):
+    """Whether value is a speed of so many axes."""
+    return is_speed(value) and len(value) == axes
+
+
 def is_item(value):
     """Whether value is an item: a key, a box and a speed, both of equally many axes."""
     if not is_sequence(value) or len(value) != 3:
         return False
     key, box, speed = value
     return is_key(key) and is_box(box) and is_speed(speed) and len(box) == len(speed)
+
+
+def is_item_of(axes, value):
+    """Whether value is an item of so many axes."""
+    return is_item(value) and len(value[1]) == axes
 
 
 def plain_item(item):

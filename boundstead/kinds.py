@@ -5,6 +5,8 @@ SPEED_LIMIT = 100
 LAST_TIME = 1000
 GREATEST_KEY = 1000000000
 MOST_AXES = 4
+MOST_ITEMS = 200
+LAST_PAGE = 999
 
 
 def is_integer(value):
@@ -47,8 +49,16 @@ def is_axes(value):
     return is_within(value, 1, MOST_AXES)
 
 
+def is_most(value):
+    """Whether value may be the greatest number of entries of a page."""
+    return is_within(value, 6, 12)
+
+
+def is_page_number(value):
+    """Whether value is an integer in the range of page numbers."""
+    return is_within(value, 0, LAST_PAGE)
+
+
 def is_speed(value):
-    """Whether value is a speed: one small integer for each of one to four axes."""
-    if not is_sequence(value) or not 1 <= len(value) <= MOST_AXES:
-        return False
-    return all([is_within(rate, -SPEED_LIMIT, SPEED_LIMIT) for rate in value])
+    """Whether value is a speed: a sequence of integers in the range of speeds, one for each axis."""
+    return is_sequence(value) and all([is_within(rate, -SPEED_LIMIT, SPEED_LIMIT) for rate in value])

@@ -1,7 +1,8 @@
 """Questions, and the answers that the plain list of the items gives."""
 
-from boundstead.boxes import gap_between, inside, is_box, meets
-from boundstead.kinds import is_sequence, is_span, is_speed, is_time, is_within
+from boundstead.boxes import gap_between, inside, meets
+from boundstead.items import is_box_of, is_speed_of
+from boundstead.kinds import is_sequence, is_span, is_time, is_within
 from boundstead.moments import compare_moments, meeting_span, place_at
 
 MOST_CONDITIONS = 4
@@ -9,22 +10,12 @@ MOST_NEAREST = 100
 WORDS = ("meets", "inside", "covers")
 
 
-def is_box_of(axes, value):
-    """Whether value is a box of so many axes."""
-    return is_box(value) and len(value) == axes
-
-
-def is_speed_of(axes, value):
-    """Whether value is a speed of so many axes."""
-    return is_speed(value) and len(value) == axes
-
-
 def is_condition(axes, value):
     """Whether value is a pair of a condition's word and a box."""
     if not is_sequence(value) or len(value) != 2:
         return False
     word, box = value
-    return isinstance(word, str) and word in WORDS and is_box_of(axes, box)
+    return word in WORDS and is_box_of(axes, box)
 
 
 def is_conditional(axes, parts):

@@ -39,7 +39,42 @@ FUNCTIONS = {
         "is_question": ("axes", "value"),
         "plain_answer": ("items", "question"),
     },
+    "asking": {
+        "answer": ("tree", "question"),
+        "pages_read": ("tree", "question"),
+        "ranked": ("tree", "box", "time"),
+        "free_space": ("tree", "box", "time"),
+    },
+    "cuts": {
+        "cut": ("tree", "question"),
+    },
+    "checking": {
+        "cut_holds": ("tree", "question", "told", "text"),
+    },
 }
+# For each method the arguments that may be passed by position, and those by name alone with their defaults.
+METHODS = {
+    "trees": {
+        "Tree": {
+            "__init__": (("self", "axes"), {"most": 8}),
+            "__len__": (("self",), {}),
+            "__contains__": (("self", "value"), {}),
+            "__eq__": (("self", "other"), {}),
+            "put": (("self", "key", "box"), {"speed": None}),
+            "drop": (("self", "key"), {}),
+            "turn": (("self", "key", "time"), {"speed": inspect.Parameter.empty}),
+            "item": (("self", "key"), {}),
+            "all_items": (("self",), {}),
+            "pages": (("self",), {}),
+            "known": (("self", "number"), {}),
+            "directory": (("self",), {}),
+            "copy": (("self",), {}),
+            "from_pages": (("axes", "pages"), {"most": 8}),
+            "packed": (("axes", "items"), {"most": 8}),
+        },
+    },
+}
+PROPERTIES = {"Tree": ("axes", "most", "root")}
 
 
 class FunctionsTest(unittest.TestCase):
@@ -59,6 +94,31 @@ class FunctionsTest(unittest.TestCase):
                 for each in parameters:
                     self.assertEqual(each.kind, each.POSITIONAL_OR_KEYWORD, name)
                     self.assertIs(each.default, each.empty, name)
+
+
+class MethodsTest(unittest.TestCase):
+    def test_defined_in_the_class_and_its_file(self):
+        for place, classes in METHODS.items():
+            module = importlib.import_module(f"boundstead.{place}")
+            for name, methods in classes.items():
+                made = getattr(module, name)
+                self.assertTrue(inspect.isclass(made))
+                self.assertEqual(made.__module__, f"boundstead.{place}")
+                for each in (*methods, *PROPERTIES[name]):
+                    self.assertIn(each, vars(made))
+                for each in PROPERTIES[name]:
+                    self.assertIsInstance(vars(made)[each], property)
+
+    def test_arguments(self):
+        for place, classes in METHODS.items():
+            module = importlib.import_module(f"boundstead.{place}")
+            for name, methods in classes.items():
+                for method, (words, named) in methods.items():
+                    parameters = inspect.signature(getattr(getattr(module, name), method)).parameters.values()
+                    by_place = tuple(each.name for each in parameters if each.kind == each.POSITIONAL_OR_KEYWORD)
+                    by_name = {each.name: each.default for each in parameters if each.kind == each.KEYWORD_ONLY}
+                    self.assertEqual((by_place, by_name), (words, named), method)
+                    self.assertEqual(len(parameters), len(words) + len(named))
 
 
 if __name__ == "__main__":

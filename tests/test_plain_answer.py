@@ -5,17 +5,13 @@ import random
 import unittest
 
 import naive
+from groves import on_line
 from helpers import as_lists, is_plain, mixed
 from makers import KINDS, items_of, question_of
 
 from boundstead.questions import is_question, plain_answer
 
 LIMIT = 1000000
-
-
-def on_line(*rows):
-    """Items (key, low, high) or (key, low, high, speed) on one axis."""
-    return tuple((row[0], ((row[1], row[2]),), tuple(row[3:]) or (0,)) for row in rows)
 
 
 class AnswerTest(unittest.TestCase):

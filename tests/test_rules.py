@@ -167,6 +167,36 @@ class CodeTest(unittest.TestCase):
             for name, line in local_names(tree):
                 self.assertNotIn(name, taken, (path, line))
 
+    def test_no_name_is_that_of_a_builtin(self):
+        for path, _, tree in files():
+            for name, line in local_names(tree):
+                self.assertFalse(name != "_" and name in vars(builtins), (path, line, name))
+            for node in ast.walk(tree):
+                if isinstance(node, (ast.FunctionDef, ast.ClassDef)):
+                    self.assertNotIn(node.name, vars(builtins), path)
+
+    def test_sets_stand_in_len_alone(self):
+        for path, _, tree in files():
+            inner = []
+            for node in ast.walk(tree):
+                if isinstance(node, ast.Call) and isinstance(node.func, ast.Name) and node.func.id == "len":
+                    inner.extend(node.args)
+            for node in ast.walk(tree):
+                self.assertNotIsInstance(node, (ast.Set, ast.SetComp), (path, getattr(node, "lineno", 0)))
+                if isinstance(node, ast.Call) and isinstance(node.func, ast.Name) and node.func.id == "set":
+                    self.assertIn(node, inner, (path, node.lineno))
+
+    def test_kept_views_and_calls_that_modify(self):
+        for path, _, tree in files():
+            for node in ast.walk(tree):
+                # Such calls are iterated where they stand, so they are neither kept nor given to extend.
+                if isinstance(node, ast.Call) and isinstance(node.func, ast.Attribute):
+                    self.assertNotEqual(node.func.attr, "sort", (path, node.lineno))
+                    if node.func.attr in ("extend", "append", "update"):
+                        self.assertNotRegex(ast.unparse(node.args[0]), r"\A(zip|reversed|range|enumerate|map)\(")
+                if isinstance(node, ast.Assign):
+                    self.assertNotRegex(ast.unparse(node.value), r"\A(zip|reversed|range|enumerate|map)\(")
+
     def test_underscore_is_never_read(self):
         for path, _, tree in files():
             for node in ast.walk(tree):

@@ -1,0 +1,86 @@
+"""What the items that are possible within known bounds can do."""
+
+from boundstead.moments import fraction_of, narrowed
+
+
+def is_fulfillable_on(bounds, conditions, time, axis):
+    """Whether a low, a high and a speed within the bounds fulfil all conditions on the axis."""
+    low, high, slow, fast = bounds[axis]
+    # Where the low and the high of the place must lie: first all that is possible at
+    # the time, then what each condition leaves of it.
+    least_low = least_high = low + slow * time
+    most_low = most_high = high + fast * time
+    for word, box in conditions:
+        one, other = box[axis]
+        if word == "inside":
+            least_low = max(least_low, one)
+            most_high = min(most_high, other)
+        elif word == "covers":
+            most_low = min(most_low, one)
+            least_high = max(least_high, other)
+        else:
+            most_low = min(most_low, other)
+            least_high = max(least_high, one)
+    if least_low > min(most_low, most_high) or least_high > most_high:
+        return False
+    # With the shift d = speed * time, the low and the high lie from low + d to high + d.
+    least = max(least_low, least_high) - high
+    most = min(most_low, most_high) - low
+    if time == 0:
+        return least <= 0 <= most
+    return max(slow, -(-least // time)) <= min(fast, most // time)
+
+
+def is_certain(bounds, conditions, time):
+    """Whether all items that are possible within the bounds fulfil all conditions."""
+    for word, box in conditions:
+        for (low, high, slow, fast), (one, other) in zip(bounds, box):
+            least, most = (other, one) if word == "covers" else (one, other)
+            if not least <= low + slow * time <= high + fast * time <= most:
+                return False
+    return True
+
+
+def least_gap_on(bound, pair, time):
+    """The least distance on an axis of a possible place from the pair."""
+    low, high, slow, fast = bound
+    one, other = pair
+    # Up to the speed near every place ends at or below the pair's low: the faster, the nearer.
+    # Above it, it is the slower, the nearer.
+    near = slow if time == 0 else (one - high) // time
+    gaps = []
+    for rate in (near, near + 1):
+        shift = min(max(rate, slow), fast) * time
+        gaps.append(max(0, one - (high + shift), low + shift - other))
+    return min(gaps)
+
+
+def least_distance(bounds, box, time):
+    """The least square of a distance from the box that a place within the bounds has at the time."""
+    return sum([least_gap_on(bound, pair, time) ** 2 for bound, pair in zip(bounds, box)])
+
+
+def corner_of(bounds, time):
+    """The least low on each axis that a place within the bounds has at the time."""
+    return tuple([low + slow * time for low, _, slow, _ in bounds])
+
+
+def window_on(bounds, box, speed, axis, span):
+    """The part of the span at which a place within the bounds may meet the moving box on the axis."""
+    low, high, slow, fast = bounds[axis]
+    one, other = box[axis]
+    rate = speed[axis]
+    return narrowed(narrowed(span, slow - rate, other - low), rate - fast, high - one)
+
+
+def whole_span(start, end):
+    """The span as a pair of fractions."""
+    return (fraction_of(start, 1), fraction_of(end, 1))
+
+
+def window_of(bounds, box, speed, start, end):
+    """The part of the span at which a place within the bounds may meet the moving box on every axis."""
+    span = whole_span(start, end)
+    for axis in range(len(box)):
+        span = window_on(bounds, box, speed, axis, span)
+    return span
