@@ -3,8 +3,8 @@
 from boundstead.moments import fraction_of, narrowed
 
 
-def is_fulfillable_on(bounds, conditions, time, axis):
-    """Whether a low, a high and a speed within the bounds fulfil all conditions on the axis."""
+def fulfilling_on(bounds, conditions, time, axis):
+    """A (low, high, speed) within the bounds that fulfils all conditions on the axis, or None."""
     low, high, slow, fast = bounds[axis]
     # Where the low and the high of the place must lie: first all that is possible at
     # the time, then what each condition leaves of it.
@@ -22,13 +22,22 @@ def is_fulfillable_on(bounds, conditions, time, axis):
             most_low = min(most_low, other)
             least_high = max(least_high, one)
     if least_low > min(most_low, most_high) or least_high > most_high:
-        return False
+        return None
     # With the shift d = speed * time, the low and the high lie from low + d to high + d.
     least = max(least_low, least_high) - high
     most = min(most_low, most_high) - low
-    if time == 0:
-        return least <= 0 <= most
-    return max(slow, -(-least // time)) <= min(fast, most // time)
+    if time == 0 and not least <= 0 <= most:
+        return None
+    rate = slow if time == 0 else max(slow, -(-least // time))
+    if time > 0 and rate > min(fast, most // time):
+        return None
+    shift = rate * time
+    return (max(low, least_low - shift), min(high, most_high - shift), rate)
+
+
+def is_fulfillable_on(bounds, conditions, time, axis):
+    """Whether a low, a high and a speed within the bounds fulfil all conditions on the axis."""
+    return fulfilling_on(bounds, conditions, time, axis) is not None
 
 
 def is_certain(bounds, conditions, time):
@@ -41,23 +50,24 @@ def is_certain(bounds, conditions, time):
     return True
 
 
-def least_gap_on(bound, pair, time):
-    """The least distance on an axis of a possible place from the pair."""
+def nearest_on(bound, pair, time):
+    """The least distance on an axis of a possible place from the pair, and a speed that leads there."""
     low, high, slow, fast = bound
     one, other = pair
     # Up to the speed near every place ends at or below the pair's low: the faster, the nearer.
     # Above it, it is the slower, the nearer.
     near = slow if time == 0 else (one - high) // time
-    gaps = []
-    for rate in (near, near + 1):
-        shift = min(max(rate, slow), fast) * time
-        gaps.append(max(0, one - (high + shift), low + shift - other))
-    return min(gaps)
+    rows = []
+    for guess in (near, near + 1):
+        rate = min(max(guess, slow), fast)
+        shift = rate * time
+        rows.append((max(0, one - (high + shift), low + shift - other), rate))
+    return min(rows)
 
 
 def least_distance(bounds, box, time):
     """The least square of a distance from the box that a place within the bounds has at the time."""
-    return sum([least_gap_on(bound, pair, time) ** 2 for bound, pair in zip(bounds, box)])
+    return sum([nearest_on(bound, pair, time)[0] ** 2 for bound, pair in zip(bounds, box)])
 
 
 def corner_of(bounds, time):

@@ -51,6 +51,23 @@ FUNCTIONS = {
     "checking": {
         "cut_holds": ("tree", "question", "told", "text"),
     },
+    "lots": {
+        "needed": ("tree", "question"),
+        "settles": ("tree", "question", "lot"),
+        "twin_against": ("tree", "question", "lot"),
+        "is_twin": ("tree", "lot", "twin"),
+        "twin_items": ("tree", "twin"),
+    },
+    "joins": {
+        "join_pairs": ("one", "other", "time"),
+        "join_settles": ("one", "other", "time", "lot"),
+        "join_twin": ("one", "other", "time", "lot"),
+        "join_fewest": ("one", "other", "time"),
+        "join_bound": ("one", "other", "time"),
+    },
+    "covers": {
+        "join_bound_holds": ("one", "other", "time", "bound"),
+    },
 }
 # For each method the arguments that may be passed by position, and those by name alone with their defaults.
 METHODS = {

@@ -7,8 +7,8 @@ from fractions import Fraction
 import naive
 from makers import conditions_of, small_box, speed_of
 
-from boundstead.possible import corner_of, is_certain, is_fulfillable_on, least_distance, window_of, window_on
-from boundstead.possible import whole_span
+from boundstead.possible import corner_of, fulfilling_on, is_certain, is_fulfillable_on, least_distance, nearest_on
+from boundstead.possible import whole_span, window_of, window_on
 
 
 def bound_of(rng, room, width, fastest, spread):
@@ -38,6 +38,17 @@ def fulfils_somewhere(bound, conditions, time, axis):
 
 
 class PossibleTest(unittest.TestCase):
+    def check_fulfilling(self, bounds, conditions, time, axis):
+        """What fulfils the conditions on the axis is possible, and does."""
+        found = fulfilling_on(bounds, conditions, time, axis)
+        if found is not None:
+            low, high, rate = found
+            least, most, slow, fast = bounds[axis]
+            self.assertTrue(least <= low <= high <= most and slow <= rate <= fast, (bounds, conditions, time, found))
+            pair = (low + rate * time, high + rate * time)
+            told = [naive.pair_fulfils(pair, word, box[axis]) for word, box in conditions]
+            self.assertTrue(all(told), (bounds, conditions, time, found))
+
     def test_conditions_against_all_possible_pairs(self):
         rng = random.Random(44)
         results = {}
@@ -51,6 +62,7 @@ class PossibleTest(unittest.TestCase):
                 found = is_fulfillable_on(bounds, conditions, time, axis)
                 self.assertIs(found, axis not in shut, (bounds, conditions, time, axis))
                 self.assertIs(found, fulfils_somewhere(bounds[axis], conditions, time, axis))
+                self.check_fulfilling(bounds, conditions, time, axis)
             found = is_certain(bounds, conditions, time)
             self.assertIs(found, not naive.may_fail(bounds, conditions, time), (bounds, conditions, time))
             word = conditions[0][0] if len(conditions) == 1 else len(conditions)
@@ -67,6 +79,7 @@ class PossibleTest(unittest.TestCase):
             conditions, time = conditions_of(rng, 1, 600000), rng.choice((0, 1, 999, 1000, rng.randint(0, 1000)))
             found = is_fulfillable_on(bounds, conditions, time, 0)
             self.assertIs(found, fulfils_somewhere(bounds[0], conditions, time, 0), (bounds, conditions, time))
+            self.check_fulfilling(bounds, conditions, time, 0)
             results.add((len(conditions), found))
         self.assertTrue(results >= {(1, True), (1, False), (2, True), (2, False), (3, True)}, results)
 
@@ -89,6 +102,10 @@ class PossibleTest(unittest.TestCase):
             box, time = small_box(rng, axes, 15, 3), rng.choice((0, 1, 2, 5, 9))
             found = least_distance(bounds, box, time)
             self.assertEqual(found, naive.least_distance(bounds, box, time), (bounds, box, time))
+            for bound, (one, other) in zip(bounds, box):
+                gap, rate = nearest_on(bound, (one, other), time)
+                low, high = bound[0] + rate * time, bound[1] + rate * time
+                self.assertEqual((gap, bound[2] <= rate <= bound[3]), (max(0, one - high, low - other), True))
             zeros += found == 0
         self.assertTrue(200 < zeros < 3800, zeros)
 
