@@ -5,6 +5,7 @@ from boundstead.errors import BadValue, TooMany
 from boundstead.items import is_box_of
 from boundstead.kinds import is_time
 from boundstead.moments import place_at
+from boundstead.possible import is_certain
 from boundstead.questions import distances, is_question, plain_answer
 from boundstead.reasons import answer_horizon, reason_of
 
@@ -28,6 +29,16 @@ def pages_read(tree, question):
         if reason_of(question, (count, bounds), horizon) is None:
             numbers.append(number)
     return tuple(numbers)
+
+
+def answer_from(tree, question, read):
+    """The answer, from a dict of the items on the needed pages alone and what is known of the others."""
+    told = plain_answer([item for items in read.values() for item in items], question)
+    if question[0] != "count":
+        return told
+    _, conditions, time = question
+    rows = [(count, bounds) for number, count, bounds in tree.directory() if number not in read]
+    return told + sum([count for count, bounds in rows if is_certain(bounds, conditions, time)])
 
 
 def ranked(tree, box, time):

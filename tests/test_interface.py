@@ -68,6 +68,16 @@ FUNCTIONS = {
     "covers": {
         "join_bound_holds": ("one", "other", "time", "bound"),
     },
+    "stores": {
+        "items_in": ("text",),
+    },
+    "language": {
+        "parse": ("text",),
+        "printed": ("statement",),
+    },
+    "console": {
+        "replayed": ("store", "log"),
+    },
 }
 # For each method the arguments that may be passed by position, and those by name alone with their defaults.
 METHODS = {
@@ -88,6 +98,49 @@ METHODS = {
             "copy": (("self",), {}),
             "from_pages": (("axes", "pages"), {"most": 8}),
             "packed": (("axes", "items"), {"most": 8}),
+        },
+    },
+    "disks": {
+        "Disk": {
+            "__init__": (("self",), {}),
+            "write": (("self", "cell", "text"), {}),
+            "read": (("self", "cell"), {}),
+            "sync": (("self",), {}),
+            "pending": (("self",), {}),
+            "limit": (("self", "steps"), {}),
+            "restart": (("self", "fates"), {}),
+            "reads": (("self",), {}),
+            "writes": (("self",), {}),
+            "forget": (("self",), {}),
+        },
+    },
+    "stores": {
+        "Store": {
+            "created": (("disk", "axes"), {"most": 8}),
+            "opened": (("disk",), {}),
+            "put": (("self", "key", "box"), {"speed": None}),
+            "drop": (("self", "key"), {}),
+            "turn": (("self", "key", "time"), {"speed": inspect.Parameter.empty}),
+            "tree": (("self",), {}),
+            "ask": (("self", "question"), {}),
+            "changed": (("self",), {}),
+            "commit": (("self",), {}),
+            "rollback": (("self",), {}),
+            "cell": (("self", "number"), {}),
+            "view": (("self",), {}),
+        },
+        "View": {
+            "tree": (("self",), {}),
+            "ask": (("self", "question"), {}),
+            "cell": (("self", "number"), {}),
+            "close": (("self",), {}),
+        },
+    },
+    "console": {
+        "Console": {
+            "__init__": (("self", "store"), {}),
+            "run": (("self", "line"), {}),
+            "log": (("self",), {}),
         },
     },
 }
@@ -121,9 +174,9 @@ class MethodsTest(unittest.TestCase):
                 made = getattr(module, name)
                 self.assertTrue(inspect.isclass(made))
                 self.assertEqual(made.__module__, f"boundstead.{place}")
-                for each in (*methods, *PROPERTIES[name]):
+                for each in (*methods, *PROPERTIES.get(name, ())):
                     self.assertIn(each, vars(made))
-                for each in PROPERTIES[name]:
+                for each in PROPERTIES.get(name, ()):
                     self.assertIsInstance(vars(made)[each], property)
 
     def test_arguments(self):
