@@ -186,8 +186,8 @@ def turn_text(key, time, speed):
 
 def conditional_text(conditions, time):
     """The text of the parts of a select or count statement."""
-    told = " and ".join([f"{word} {box_text(box)}" for word, box in conditions])
-    return f"{told or ALL} at {time}"
+    told = [f"{word} {box_text(box)}" for word, box in conditions]
+    return " and ".join(told or [ALL]) + f" at {time}"
 
 
 def nearest_text(many, box, time):
@@ -233,4 +233,5 @@ def printed(statement):
     if len(parts) == 0:
         return word
     write = WRITERS[word]
-    return f"{word} {write(*parts)}"
+    told = write(*parts)
+    return f"{word} {told}"

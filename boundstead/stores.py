@@ -217,7 +217,7 @@ class Store:
         taken = {}
         for cells in [self._cells] + list(self._held.values()):
             taken.update({cell: True for cell in cells.values()})
-        # There are cells for at least fourteen trees of 66 leaf pages each, the most that 200 items can have.
+        # There are cells for fifteen trees of 66 leaf pages each, the most that 200 items can have.
         free = [cell for cell in range(FIRST_CELL, LAST_CELL + 1) if cell not in taken]
         places = {number: self._cells[number] for number, _, _ in tree.directory() if number not in changed}
         for number, cell in zip(changed, free):

@@ -5,6 +5,7 @@ import builtins
 import pathlib
 import re
 import unittest
+import warnings
 
 ROOT = pathlib.Path(__file__).resolve().parent.parent
 PACKAGE = ROOT / "boundstead"
@@ -231,6 +232,22 @@ class CodeTest(unittest.TestCase):
             self.assertTrue(free, above)
             for name in free:
                 del above[name]
+
+    def test_no_name_is_a_method_and_an_attribute(self):
+        methods, attributes = set(), set()
+        for _, _, tree in files():
+            for made in ast.walk(tree):
+                if isinstance(made, ast.ClassDef):
+                    methods.update(node.name for node in made.body if isinstance(node, ast.FunctionDef))
+                if isinstance(made, ast.Attribute) and isinstance(made.ctx, ast.Store):
+                    attributes.add(made.attr)
+        self.assertFalse(methods & attributes)
+
+    def test_no_line_gives_a_warning(self):
+        for path, text, _ in files():
+            with warnings.catch_warnings():
+                warnings.simplefilter("error")
+                compile(text, str(path), "exec")
 
     def test_generator_expressions_are_not_given_to_any_all_and_the_like(self):
         # A tree has its own __eq__ and __len__; then these functions take lists alone.
